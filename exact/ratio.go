@@ -1,4 +1,4 @@
-// Package exact has whole numbers and ratios without a limit, for the inner arithmetic of the layers.
+// Package exact has whole numbers, ratios and polynomials without a limit, for the inner arithmetic of the layers.
 // Its numbers are values: no call changes one.
 package exact
 
