@@ -69,6 +69,11 @@ func TestIntAgainstLibrary(t *testing.T) {
 			same("Quo", x.Quo(y), new(big.Int).Quo(a, b))
 			same("Quo of a product", x.Mul(y).Quo(y), a)
 		}
+		same("Abs", x.Abs(), new(big.Int).Abs(a))
+		if y.Sign() > 0 {
+			same("Floor", x.Floor(y), new(big.Int).Div(a, b))
+			same("Floor of a product", x.Mul(y).Floor(y), a)
+		}
 		if x.Cmp(y) != a.Cmp(b) || x.Cmp(x) != 0 {
 			t.Fatalf("Cmp of %v and %v: %d", a, b, x.Cmp(y))
 		}

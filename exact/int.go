@@ -76,6 +76,14 @@ func (x Int) Neg() Int {
 	return Int{neg: !x.neg, limbs: x.limbs}
 }
 
+// Abs returns the absolute value.
+func (x Int) Abs() Int {
+	if x.Sign() < 0 {
+		return x.Neg()
+	}
+	return x
+}
+
 // Cmp returns -1, 0 or 1 as x is less than, equal to or greater than y.
 func (x Int) Cmp(y Int) int {
 	if x.isSmall() && y.isSmall() {
@@ -130,6 +138,15 @@ func (x Int) Quo(y Int) Int {
 	}
 	q, _ := x.abs().div(y.abs())
 	return signed(x.Sign()*y.Sign() < 0, q)
+}
+
+// Floor returns x divided by y, which is above 0, rounded down.
+func (x Int) Floor(y Int) Int {
+	q := x.Quo(y)
+	if q.Mul(y).Cmp(x) > 0 {
+		return q.Sub(NewInt(1))
+	}
+	return q
 }
 
 // Gcd returns the greatest common divisor of x and y, at least 0.

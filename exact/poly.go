@@ -1,6 +1,10 @@
 package exact
 
-import "slices"
+import (
+	"slices"
+
+	"isocline/api"
+)
 
 // Poly is a polynomial with whole coefficients, the constant term first; the last one is not 0, and zero is empty.
 // Its coefficients are never changed once it has been made, so that several polynomials may share them.
@@ -12,6 +16,20 @@ func NewPoly(l []Int) Poly {
 		l = l[:len(l)-1]
 	}
 	return l
+}
+
+// Common returns whole coefficients and their common denominator, above 0: over it they are the numbers of p.
+func Common(p []api.Rat) (Poly, Int) {
+	under := NewInt(1)
+	for _, c := range p {
+		d := NewInt(c.D)
+		under = under.Mul(d.Quo(under.Gcd(d)))
+	}
+	l := make([]Int, len(p))
+	for i, c := range p {
+		l[i] = under.Quo(NewInt(c.D)).Mul(NewInt(c.N))
+	}
+	return NewPoly(l), under
 }
 
 // Degree returns the degree, that of zero as -1.
@@ -74,6 +92,17 @@ func (p Poly) Mul(q Poly) Poly {
 		}
 	}
 	return NewPoly(l)
+}
+
+// Value returns the value at n/d, times d to the power of the degree; that of zero is 0.
+func (p Poly) Value(n, d Int) Int {
+	var sum Int
+	unit := NewInt(1)
+	for i := p.Degree(); i >= 0; i-- {
+		sum = sum.Mul(n).Add(p[i].Mul(unit))
+		unit = unit.Mul(d)
+	}
+	return sum
 }
 
 // Derive returns the derivative.

@@ -63,6 +63,35 @@ func TestNumberAgainstRatio(t *testing.T) {
 	}
 }
 
+func TestCommon(t *testing.T) {
+	for _, c := range []struct {
+		p     []api.Rat
+		want  []int
+		under int
+	}{
+		{nil, nil, 1},
+		{[]api.Rat{{N: 5, D: 1}}, []int{5}, 1},
+		{[]api.Rat{{N: -1, D: 6}, {N: 0, D: 1}, {N: 3, D: 4}}, []int{-2, 0, 9}, 12},
+		{[]api.Rat{{N: 1, D: 1}, {N: -7, D: api.MaxNum}}, []int{api.MaxNum, -7}, api.MaxNum},
+		{[]api.Rat{{N: 4, D: 3}, {N: 8, D: 3}}, []int{4, 8}, 3},
+	} {
+		p, under := Common(c.p)
+		if len(p) != len(c.want) || under.Cmp(NewInt(c.under)) != 0 {
+			t.Fatalf("Common of %v: %v %v", c.p, p, under)
+		}
+		for i, n := range c.want {
+			if p[i].Cmp(NewInt(n)) != 0 {
+				t.Errorf("Common of %v: %v %v", c.p, p, under)
+			}
+		}
+	}
+	p, under := Common([]api.Rat{{N: 1, D: 999999999989}, {N: 1, D: 999999999961}, {N: 1, D: 999999999959}})
+	a, b, c := NewInt(999999999989), NewInt(999999999961), NewInt(999999999959)
+	if under.Cmp(a.Mul(b).Mul(c)) != 0 || p[0].Cmp(b.Mul(c)) != 0 || p[1].Cmp(a.Mul(c)) != 0 || p[2].Cmp(a.Mul(b)) != 0 {
+		t.Errorf("Common of large denominators: %v %v", p, under)
+	}
+}
+
 // polys returns polynomials of a degree of at most degree, among them zero and constants.
 func polys(r *rand.Rand, degree, count int) []Poly {
 	var l []Poly
@@ -120,6 +149,14 @@ func TestPolyAgainstLibrary(t *testing.T) {
 		}
 		product := p.Derive().Mul(q).Add(p.Mul(q.Derive()))
 		same("Derive", p.Mul(q).Derive(), product)
+		n, d := samples(r, 2, 1)[0], NewInt(1+r.Intn(1000))
+		powers := new(big.Int) // the sum of the coefficients times powers of n and d
+		for i, c := range p {
+			powers.Add(powers, toBig(t, c.Mul(n.Power(i)).Mul(d.Power(p.Degree()-i))))
+		}
+		if toBig(t, p.Value(n, d)).Cmp(powers) != 0 {
+			t.Fatalf("Value of %v at %v/%v: %v", p, n, d, p.Value(n, d))
+		}
 		if len(q) == 0 {
 			continue
 		}
@@ -135,6 +172,38 @@ func TestPolyAgainstLibrary(t *testing.T) {
 		same("Primitive again", again, primitive)
 		if one.Cmp(NewInt(1)) != 0 || primitive.Last().Sign() < 0 {
 			t.Fatalf("Primitive of %v: %v %v", q, primitive, content)
+		}
+	}
+}
+
+// TestRemainders looks at what follows two of the row: with one number above 0 and one below 0, they make a multiple of the one between.
+func TestRemainders(t *testing.T) {
+	r := rand.New(rand.NewSource(6))
+	for range 1000 {
+		l := polys(r, 4, 3)
+		p, q := l[0].Mul(l[2]), l[1].Mul(l[2])
+		if p.Degree() < q.Degree() {
+			p, q = q, p
+		}
+		if len(p) == 0 {
+			continue
+		}
+		row := p.Remainders(q)
+		sameValues(t, "the first", row[0], func(x int) *big.Int { return value(t, p, x) })
+		if len(row) > 1 {
+			sameValues(t, "the second", row[1], func(x int) *big.Int { return value(t, q, x) })
+		}
+		for i := 2; i < len(row); i++ {
+			k, _, rest := row[i-2].Div(row[i-1])
+			// A number times the member, and one times the rest, are equal: their signs have to be opposite.
+			a, b := rest.Last(), row[i].Last()
+			sameValues(t, "a member", row[i].Scale(a), func(x int) *big.Int { return value(t, rest.Scale(b), x) })
+			if a.Sign()*b.Sign()*k.Sign() >= 0 || row[i].Degree() >= row[i-1].Degree() {
+				t.Fatalf("Remainders of %v, %v: %v", p, q, row)
+			}
+		}
+		if g := p.Gcd(q); row[len(row)-1].Degree() != g.Degree() {
+			t.Fatalf("Remainders of %v, %v end in %v", p, q, row[len(row)-1])
 		}
 	}
 }

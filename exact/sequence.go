@@ -26,6 +26,20 @@ func (s *sequence) next() (k Int, quotient Poly, by Int) {
 	return k, quotient, by
 }
 
+// Remainders returns a row of polynomials that begins with p and q: what follows two of them is their remainder times
+// some number below 0. The last one, which is not zero, is a greatest common divisor. The degree of p is at least that of q.
+func (p Poly) Remainders(q Poly) []Poly {
+	row := []Poly{p}
+	s := newSequence(p, q)
+	signA, signB := 1, 1 // with these signs, a and b of the sequence are members of the row
+	for len(s.b) > 0 {
+		row = append(row, s.b.Scale(NewInt(signB)))
+		k, _, by := s.next()
+		signA, signB = signB, -signA*k.Sign()*by.Sign()
+	}
+	return row
+}
+
 // Gcd returns the primitive greatest common divisor, zero if both are zero.
 func (p Poly) Gcd(q Poly) Poly {
 	if p.Degree() < q.Degree() {

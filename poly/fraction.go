@@ -13,16 +13,8 @@ type fraction struct {
 }
 
 func of(p []api.Rat) fraction {
-	under := exact.NewInt(1)
-	for _, c := range terms(p) {
-		d := exact.NewInt(c.D)
-		under = under.Mul(d.Quo(under.Gcd(d)))
-	}
-	l := make([]exact.Int, len(p))
-	for i, c := range terms(p) {
-		l[i] = under.Quo(exact.NewInt(c.D)).Mul(exact.NewInt(c.N))
-	}
-	return fraction{exact.NewPoly(l), under}
+	whole, under := exact.Common(p)
+	return fraction{whole, under}
 }
 
 // numbers returns the polynomial in lowest terms: ErrLarge if its degree is above MaxDeg or a number is not representable.
