@@ -27,6 +27,20 @@ func Number(n, d Int) (api.Rat, api.Errno) {
 	return last, api.OK
 }
 
+// Share returns whole numbers and their common denominator, above 0: over it they are the numbers of l.
+func Share(l []api.Rat) ([]Int, Int) {
+	under := NewInt(1)
+	for _, x := range l {
+		d := NewInt(x.D)
+		under = under.Mul(d.Quo(under.Gcd(d)))
+	}
+	whole := make([]Int, len(l))
+	for i, x := range l {
+		whole[i] = under.Quo(NewInt(x.D)).Mul(NewInt(x.N))
+	}
+	return whole, under
+}
+
 // convergent returns the one that follows with the next item a of the continued fraction, and whether it is within the limit.
 func convergent(before, last api.Rat, a nat) (api.Rat, bool) {
 	n, ok := follow(before.N, last.N, a)

@@ -20,16 +20,26 @@ func NewPoly(l []Int) Poly {
 
 // Common returns whole coefficients and their common denominator, above 0: over it they are the numbers of p.
 func Common(p []api.Rat) (Poly, Int) {
-	under := NewInt(1)
-	for _, c := range p {
-		d := NewInt(c.D)
-		under = under.Mul(d.Quo(under.Gcd(d)))
-	}
-	l := make([]Int, len(p))
-	for i, c := range p {
-		l[i] = under.Quo(NewInt(c.D)).Mul(NewInt(c.N))
-	}
+	l, under := Share(p)
 	return NewPoly(l), under
+}
+
+// Through returns the polynomial of a degree below the number of values that has them at 0, 1, 2 and so on.
+// Its coefficients are whole.
+func Through(values []Int) Poly {
+	l := slices.Clone(values)
+	// Newton's form: l[i] becomes the difference of i + 1 values, divided by i!; with whole coefficients it is whole.
+	for k := 1; k < len(l); k++ {
+		for i := len(l) - 1; i >= k; i-- {
+			l[i] = l[i].Sub(l[i-1]).Quo(NewInt(k))
+		}
+	}
+	var p Poly
+	for i := len(l) - 1; i >= 0; i-- {
+		line := Poly{NewInt(-i), NewInt(1)}
+		p = p.Mul(line).Add(NewPoly([]Int{l[i]}))
+	}
+	return p
 }
 
 // Degree returns the degree, that of zero as -1.
