@@ -86,6 +86,11 @@ func (x Ratio) Power(n int) Ratio {
 	return Ratio{x.n.Power(n), x.d.Power(n)}
 }
 
+// Floor returns the greatest whole number that is at most x.
+func (x Ratio) Floor() Int {
+	return x.n.Floor(x.d)
+}
+
 // Sign returns -1, 0 or 1.
 func (x Ratio) Sign() int {
 	return x.n.Sign()
