@@ -68,6 +68,15 @@ func (x Int) Sign() int {
 	return order(x.neg)
 }
 
+// Bits returns how many binary digits the absolute value has; 0 has none.
+func (x Int) Bits() int {
+	if x.isSmall() {
+		return bits.Len64(size(x.small))
+	}
+	top := len(x.limbs) - 1
+	return 64*top + bits.Len64(x.limbs[top])
+}
+
 // Neg returns -x.
 func (x Int) Neg() Int {
 	if x.isSmall() {

@@ -1,4 +1,4 @@
-// Package exact has whole numbers, ratios and polynomials without a limit, for the inner arithmetic of the layers.
+// Package exact has whole numbers, ratios, polynomials and matrices without a limit, for the inner arithmetic of the layers.
 // Its numbers are values: no call changes one.
 package exact
 
@@ -94,6 +94,11 @@ func (x Ratio) Floor() Int {
 // Sign returns -1, 0 or 1.
 func (x Ratio) Sign() int {
 	return x.n.Sign()
+}
+
+// Bits returns how many binary digits the numerator or the denominator has, the longer one of them.
+func (x Ratio) Bits() int {
+	return max(x.n.Bits(), x.d.Bits())
 }
 
 // Cmp returns -1, 0 or 1 as x is less than, equal to or greater than y.
